@@ -1,0 +1,1 @@
+"""What sways an answer, yes or no, that hangs on bits."""
