@@ -60,8 +60,12 @@ class BeforeBegin(unittest.TestCase):
         self.assertEqual([NAMES.index(call[0]) for call in EVERY_CALL], list(range(1, 57)))
         self.assertEqual(said(*EVERY_CALL[:28]), [[-11]] * 28)
         self.assertEqual(said(*EVERY_CALL[28:]), [[-11]] * 28)
-        for call in EVERY_CALL:
-            self.assertEqual(said(call, ("told", [])), [[-11], [-11]], call)
+
+    def test_every_other_call_is_read_to_its_end(self):
+        # No call has such a number, so that one read short or long is found out.
+        for name, *given in EVERY_CALL:
+            far = [[9999] * 3 if isinstance(one, list) else 9999 for one in given]
+            self.assertEqual(said((name, *far), ("told", [])), [[-11], [-11]], name)
 
     def test_it_comes_ahead_of_other_refusals(self):
         for call, refusal in REFUSED:
