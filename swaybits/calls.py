@@ -1,8 +1,7 @@
 """How the calls on one object are told as numbers."""
 
 # A call's number is its place here; behind its name stand how many whole
-# numbers it has, and how many rows. All calls of the document are here, built
-# or not: ahead of a begin each of them is answered.
+# numbers it has, and how many rows.
 CALLS = (
     ("begin", 1, 0),
     ("told", 0, 1),

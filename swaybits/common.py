@@ -2,8 +2,13 @@
 
 # Refusals are answered below 0; here they stand by their bare numbers.
 NO_SUCH = 2
+NOTHING_THERE = 6
 NOT_BEGUN = 11
 NOT_RIGHT = 22
+NONE_FOUND = 33
+TOO_MANY = 75
+
+PLACES = 4
 
 
 def refused(number):

@@ -1,9 +1,13 @@
 """The desk of answers: calls on one object, told as whole numbers."""
 
 from swaybits.calls import cut
+from swaybits.changing import as_it_is, keep_change, tell_back
 from swaybits.common import NOT_BEGUN, refused
+from swaybits.comparing import COMPARING, compared
 from swaybits.making import MAKING, begin
 from swaybits.mishearing import MISHEARING
+from swaybits.rises import RISES
+from swaybits.shelving import SHELVING
 from swaybits.swaying import SWAYING
 
 
@@ -14,6 +18,23 @@ class Desk:
         self.bits = 0
         self.says = ()
         self.chance = ()
+        self.shelf = ()
+        self.past = []
+
+
+def called(desk, name, given):
+    """What is answered to a call that neither begins nor takes back."""
+    if name in MAKING:
+        return MAKING[name](desk, given)
+    if name in SWAYING:
+        return SWAYING[name](desk, given)
+    if name in MISHEARING:
+        return MISHEARING[name](desk, given)
+    if name in COMPARING:
+        return compared(desk, name, given)
+    if name in RISES:
+        return RISES[name](desk, given)
+    return SHELVING[name](desk, given)
 
 
 def answered(desk, name, given):
@@ -22,13 +43,12 @@ def answered(desk, name, given):
         return begin(desk, given)
     if desk.bits == 0:
         return refused(NOT_BEGUN)
-    if name in MAKING:
-        return MAKING[name](desk, given)
-    if name in SWAYING:
-        return SWAYING[name](desk, given)
-    if name in MISHEARING:
-        return MISHEARING[name](desk, given)
-    raise NotImplementedError(f"{name} is not built yet")
+    if name == "back":
+        return tell_back(desk)
+    before = as_it_is(desk)
+    numbers = called(desk, name, given)
+    keep_change(desk, before)
+    return numbers
 
 
 def answers(calls):

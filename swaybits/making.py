@@ -1,6 +1,6 @@
 """Answers as they are made: what each word is told, 1 for yes, 0 for no."""
 
-from swaybits.common import NO_SUCH, NOT_RIGHT, meets_oddly, refused, turned
+from swaybits.common import NO_SUCH, NOT_RIGHT, PLACES, meets_oddly, refused, turned
 
 MOST_BITS = 5
 MOST_TOLD = 32
@@ -15,6 +15,8 @@ def begin(desk, given):
     desk.bits = bits
     desk.says = tuple([0 for word in range(1 << bits)])
     desk.chance = (1, 10)
+    desk.shelf = tuple([None for place in range(PLACES)])
+    desk.past = []
     return [0]
 
 

@@ -50,17 +50,17 @@ def yes_said(says, counts, meant):
     return sum([counts[bits_set(meant ^ word)] for word, said in enumerate(says) if said == 1])
 
 
-def all_yes_said(desk, chance):
+def all_yes_said(bits, says, chance):
     """How likely yes is said to each word."""
-    counts = heard(desk.bits, chance)
-    return [yes_said(desk.says, counts, meant) for meant in range(len(desk.says))]
+    counts = heard(bits, chance)
+    return [yes_said(says, counts, meant) for meant in range(len(says))]
 
 
-def all_rightly(desk, chance):
+def all_rightly(bits, says, chance):
     """For each word, how likely the answer to it is said as it is."""
-    certain = whole(desk.bits, chance)
-    yes = all_yes_said(desk, chance)
-    return [yes[word] if said == 1 else certain - yes[word] for word, said in enumerate(desk.says)]
+    certain = whole(bits, chance)
+    yes = all_yes_said(bits, says, chance)
+    return [yes[word] if said == 1 else certain - yes[word] for word, said in enumerate(says)]
 
 
 def tell_soft(desk, given):
@@ -68,29 +68,31 @@ def tell_soft(desk, given):
     meant = given[0]
     if meant >= len(desk.says):
         return refused(NOT_RIGHT)
-    return [0] + lowest(all_yes_said(desk, desk.chance)[meant], whole(desk.bits, desk.chance))
+    likely = all_yes_said(desk.bits, desk.says, desk.chance)[meant]
+    return [0] + lowest(likely, whole(desk.bits, desk.chance))
 
 
-def stays(desk, chance):
-    """How likely the answer stays, if bits are misheard by this chance."""
-    return lowest(sum(all_rightly(desk, chance)), len(desk.says) * whole(desk.bits, chance))
+def stays(bits, says, chance):
+    """How likely an answer stays, if bits are misheard by this chance."""
+    return lowest(sum(all_rightly(bits, says, chance)), len(says) * whole(bits, chance))
 
 
 def tell_stays(desk, given):
     """How likely the answer stays."""
-    return [0] + stays(desk, desk.chance)
+    return [0] + stays(desk.bits, desk.says, desk.chance)
 
 
 def tell_agree(desk, given):
     """How likely two who hear it agree."""
     certain = whole(desk.bits, desk.chance)
-    both = [yes * yes + (certain - yes) * (certain - yes) for yes in all_yes_said(desk, desk.chance)]
+    likely = all_yes_said(desk.bits, desk.says, desk.chance)
+    both = [yes * yes + (certain - yes) * (certain - yes) for yes in likely]
     return [0] + lowest(sum(both), len(desk.says) * certain * certain)
 
 
 def tell_worst(desk, given):
     """The first word of those least likely answered as it is, and how likely."""
-    rightly = all_rightly(desk, desk.chance)
+    rightly = all_rightly(desk.bits, desk.says, desk.chance)
     least = min(rightly)
     return [rightly.index(least)] + lowest(least, whole(desk.bits, desk.chance))
 
@@ -99,7 +101,7 @@ def tell_ifchance(desk, given):
     """How likely the answer would stay by another chance."""
     if not chance_right(given):
         return refused(NOT_RIGHT)
-    return [0] + stays(desk, given)
+    return [0] + stays(desk.bits, desk.says, given)
 
 
 MISHEARING = {

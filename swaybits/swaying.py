@@ -16,9 +16,14 @@ def tell_mean(desk, given):
     return [0] + lowest(sum(desk.says), len(desk.says))
 
 
+def swayed(says, bit):
+    """The words at which the bit sways."""
+    return [word for word, said in enumerate(says) if said != says[turned(word, bit)]]
+
+
 def sways(says, bit):
     """At how many words the bit sways."""
-    return sum([1 for word, said in enumerate(says) if said != says[turned(word, bit)]])
+    return len(swayed(says, bit))
 
 
 def all_sways(bits, says):
@@ -34,16 +39,26 @@ def tell_sway(desk, given):
     return [0] + lowest(sways(desk.says, bit), len(desk.says))
 
 
+def together(bits, says):
+    """All bits' sways together."""
+    return lowest(sum(all_sways(bits, says)), len(says))
+
+
 def tell_all(desk, given):
     """All bits' sways together."""
-    return [0] + lowest(sum(all_sways(desk.bits, desk.says)), len(desk.says))
+    return [0] + together(desk.bits, desk.says)
+
+
+def even(says):
+    """How even an answer is."""
+    size = len(says)
+    count = sum(says)
+    return lowest(4 * count * (size - count), size * size)
 
 
 def tell_even(desk, given):
     """How even the answer is."""
-    size = len(desk.says)
-    count = sum(desk.says)
-    return [0] + lowest(4 * count * (size - count), size * size)
+    return [0] + even(desk.says)
 
 
 def part(says, chosen):

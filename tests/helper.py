@@ -1,6 +1,8 @@
 """Calls by their names, and what the document's words say, reckoned its own way."""
 
 from fractions import Fraction
+from functools import lru_cache
+from itertools import product
 
 from swaybits.desk import answers
 
@@ -21,9 +23,10 @@ EVERY_CALL = [
     ("steepest", 2), ("fixed", 2), ("put", 0), ("take", 0), ("join", 0, 0), ("same", 0),
     ("more", 0, 0), ("best", 0), ("shelf",), ("back",),
 ]
-BUILT = [call for call in EVERY_CALL if NAMES.index(call[0]) <= 28]
 
 HUGE = 4294967295
+
+ORDERS = ["abc", "acb", "bac", "bca", "cab", "cba"]
 
 
 def line(*calls):
@@ -76,6 +79,16 @@ def fraction(value):
 def bits_of(word):
     """The bits that are set."""
     return {bit for bit in range(5) if word // 2 ** bit % 2 == 1}
+
+
+@lru_cache(maxsize=None)
+def words_of(vote):
+    """For a with b, b with c, c with a: the word of the voters who put the first ahead."""
+    found = []
+    for former, latter in ("ab", "bc", "ca"):
+        ahead = [ORDERS[order].index(former) < ORDERS[order].index(latter) for order in vote]
+        found.append(sum(2 ** voter for voter, here in enumerate(ahead) if here))
+    return found
 
 
 class Oracle:
@@ -145,6 +158,86 @@ class Oracle:
 
     def agree(self):
         return sum(self.soft(word) ** 2 + (1 - self.soft(word)) ** 2 for word in self.words) / len(self.words)
+
+    def votes(self):
+        return list(product(range(6), repeat=self.bits))
+
+    def vote(self, vote):
+        return [word in self.yes for word in words_of(tuple(vote))]
+
+    def comes_round(self, vote):
+        return len(set(self.vote(vote))) == 1
+
+    def ahead_of(self, vote):
+        """For each thing, of how many others it's ahead."""
+        counts = dict.fromkeys("abc", 0)
+        for (former, latter), yes in zip(("ab", "bc", "ca"), self.vote(vote)):
+            counts[former if yes else latter] += 1
+        return counts
+
+    def winner(self, vote):
+        return [thing for thing, count in self.ahead_of(vote).items() if count == 2]
+
+    def order(self, vote):
+        counts = self.ahead_of(vote)
+        return ORDERS.index("".join(sorted("abc", key=lambda thing: -counts[thing])))
+
+    def rounds(self):
+        return [vote for vote in self.votes() if self.comes_round(vote)]
+
+    def byparts(self):
+        total = sum((self.part(chosen) ** 2 * Fraction(-1, 3) ** len(bits_of(chosen)) for chosen in self.words),
+                    Fraction(0))
+        return Fraction(3, 4) - Fraction(3, 4) * total
+
+    def isodd(self):
+        return int(all((word in self.yes) != (self.words[-1] - word in self.yes) for word in self.words))
+
+    def alike(self):
+        said = {(len(bits_of(word)), word in self.yes) for word in self.words}
+        return int(len(said) == self.bits + 1)
+
+    def whose(self):
+        for bit in range(self.bits):
+            own = {word for word in self.words if bit in bits_of(word)}
+            if self.yes == own:
+                return [bit, 1]
+            if self.yes == set(self.words) - own:
+                return [bit, 0]
+        return [-33]
+
+    def likely(self, word, p, without=None):
+        likely = Fraction(1)
+        for bit in range(self.bits):
+            if bit != without:
+                likely *= p if bit in bits_of(word) else 1 - p
+        return likely
+
+    def yes_at(self, p):
+        return sum((self.likely(word, p) for word in self.yes), Fraction(0))
+
+    def sway_at(self, bit, p):
+        return sum((self.likely(word, p) for word in self.words
+                    if (word in self.yes) != (self.turned(word, bit) in self.yes)), Fraction(0))
+
+    def slope(self, p):
+        """By each bit alone, the others held; so it's reckoned otherwise than by sizes."""
+        total = Fraction(0)
+        for bit in range(self.bits):
+            for word in self.words:
+                if bit in bits_of(word):
+                    rise = (word in self.yes) - (self.turned(word, bit) in self.yes)
+                    total += rise * self.likely(word, p, without=bit)
+        return total
+
+    def sizes(self):
+        return [sum(len(bits_of(word)) == size for word in self.yes) for size in range(self.bits + 1)]
+
+    def least_for(self, d, due):
+        return next((a for a in range(d + 1) if self.yes_at(Fraction(a, d)) >= due), None)
+
+    def measure(self, number):
+        return [self.even, lambda: sum(self.sways()), self.stays, self.byparts][number]()
 
 
 def some_answers():
